@@ -1,0 +1,1 @@
+"""Broodcounts: trees whose brothers are counted."""

@@ -1,0 +1,136 @@
+"""Signs and trees, and the plain tree that stands for all alike ones."""
+
+from broodcounts.basics import is_name, is_number
+from broodcounts.errors import InvalidNumber, InvalidSigns, InvalidTree, TooMany
+
+MOST_SIGNS = 8
+GREATEST_SIZE = 12
+MOST_TREES = 1000
+
+
+def is_signs(thing):
+    """Return whether an object is signs."""
+    if not isinstance(thing, list) or not 1 <= len(thing) <= MOST_SIGNS:
+        return False
+    return all([is_name(sign) for sign in thing]) and len(set(thing)) == len(thing)
+
+
+def check_signs(signs):
+    """Raise InvalidSigns unless an object is signs."""
+    if not is_signs(signs):
+        raise InvalidSigns("the signs are no list of one to eight different names")
+
+
+def is_tree(signs, thing):
+    """Return whether an object is a tree of signs."""
+    check_signs(signs)
+    waiting = [thing]
+    while waiting:
+        part = waiting.pop()
+        if not isinstance(part, tuple) or len(part) == 0:
+            return False
+        if part[0] not in signs:
+            return False
+        waiting.extend(part[1:])
+    return True
+
+
+def check_tree(signs, tree):
+    """Raise InvalidSigns unless the signs are signs, InvalidTree unless the tree is one of them."""
+    if not is_tree(signs, tree):
+        raise InvalidTree("the tree is no tree of the signs")
+
+
+def standing_in(tree):
+    """Return the list of all trees that stand in a tree, itself, too, as often as they stand."""
+    found = []
+    waiting = [tree]
+    while waiting:
+        part = waiting.pop()
+        found.append(part)
+        waiting.extend(part[1:])
+    return found
+
+
+def rank(tree):
+    """Return the key by which plain trees ascend."""
+    return (len(standing_in(tree)), tree)
+
+
+def made_plain(tree):
+    """Return the plain tree that is alike to a tree."""
+    brothers = [made_plain(brother) for brother in tree[1:]]
+    brothers = sorted(brothers, key=rank)
+    return (tree[0], *brothers)
+
+
+def plain(signs, tree):
+    """Return the plain tree that is alike to a tree."""
+    check_tree(signs, tree)
+    return made_plain(tree)
+
+
+def size(signs, tree):
+    """Return the number of places of signs in a tree."""
+    check_tree(signs, tree)
+    return len(standing_in(tree))
+
+
+def depth(signs, tree):
+    """Return 1, or one more than the greatest depth of a tree's brothers."""
+    check_tree(signs, tree)
+    levels = 0
+    level = [tree]
+    while level:
+        levels += 1
+        level = [brother for part in level for brother in part[1:]]
+    return levels
+
+
+def parts(signs, tree):
+    """Return the ascending list of the different plain trees of those that stand in a tree."""
+    check_tree(signs, tree)
+    ascending = sorted(standing_in(made_plain(tree)), key=rank)
+    different = ascending[:1]
+    for part in ascending:
+        if part != different[-1]:
+            different.append(part)
+    return different
+
+
+def alike(signs, one, other):
+    """Return whether two trees are alike."""
+    check_tree(signs, one)
+    check_tree(signs, other)
+    return made_plain(one) == made_plain(other)
+
+
+def trees_of_size(signs, size):
+    """Return the ascending list of all plain trees of a size."""
+    check_signs(signs)
+    if not is_number(size, 1, GREATEST_SIZE):
+        raise InvalidNumber("the size is no integer from 1 to 12")
+    sized = []
+    trees = []
+    for places in range(1, size + 1):
+        rows = _ascending_rows(sized, 0, places - 1)
+        trees = sorted([(sign, *row) for sign in signs for row in rows])
+        # Each tree can stand beneath a sign, so no greater size has fewer trees.
+        if len(trees) > MOST_TREES:
+            raise TooMany("there are more than a thousand trees of this size")
+        sized = sized + [(places, tree) for tree in trees]
+    return trees
+
+
+def _ascending_rows(sized, first, left):
+    """Return all ascending rows of the trees from the first one on that have so many places left."""
+    if left == 0:
+        return [()]
+    rows = []
+    for at in range(first, len(sized)):
+        places, tree = sized[at]
+        if places > left:
+            break
+        for row in _ascending_rows(sized, at, left - places):
+            rows.append((tree, *row))
+    return rows
