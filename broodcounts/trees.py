@@ -105,32 +105,52 @@ def alike(signs, one, other):
     return made_plain(one) == made_plain(other)
 
 
+def numbers_of_trees(many, size):
+    """Return the list of how many plain trees of so many signs have 0, 1, 2 .. places, up to a size."""
+    trees = [0]
+    rows = [1]
+    shares = [0]
+    for places in range(1, size + 1):
+        trees.append(many * rows[places - 1])
+        # What brothers of each size add to rows, counted by their places (Euler's transform): so none is made.
+        shares.append(sum([part * trees[part] for part in range(1, places + 1) if places % part == 0]))
+        rows.append(sum([shares[part] * rows[places - part] for part in range(1, places + 1)]) // places)
+    return trees
+
+
+def check_few(signs, size):
+    """Raise TooMany if there are more than a thousand plain trees of a size."""
+    if numbers_of_trees(len(signs), size)[size] > MOST_TREES:
+        raise TooMany("there are more than a thousand trees of this size")
+
+
 def trees_of_size(signs, size):
     """Return the ascending list of all plain trees of a size."""
     check_signs(signs)
     if not is_number(size, 1, GREATEST_SIZE):
         raise InvalidNumber("the size is no integer from 1 to 12")
-    sized = []
-    trees = []
+    check_few(signs, size)
+    return [tree for places, tree, _ in numbered_trees(signs, size) if places == size]
+
+
+def numbered_trees(signs, size):
+    """Return all plain trees up to a size, ascending, as tuples of size, tree and its brothers' indexes here."""
+    found = []
+    rows = [[((), ())]]
     for places in range(1, size + 1):
-        rows = _ascending_rows(sized, 0, places - 1)
-        trees = sorted([(sign, *row) for sign in signs for row in rows])
-        # Each tree can stand beneath a sign, so no greater size has fewer trees.
-        if len(trees) > MOST_TREES:
-            raise TooMany("there are more than a thousand trees of this size")
-        sized = sized + [(places, tree) for tree in trees]
-    return trees
+        brothers = sorted(rows[places - 1])
+        found = found + [(places, (sign, *row), indexes) for sign in sorted(signs) for row, indexes in brothers]
+        if places < size:
+            rows.append(_longer_rows(rows, found))
+    return found
 
 
-def _ascending_rows(sized, first, left):
-    """Return all ascending rows of the trees from the first one on that have so many places left."""
-    if left == 0:
-        return [()]
-    rows = []
-    for at in range(first, len(sized)):
-        places, tree = sized[at]
-        if places > left:
-            break
-        for row in _ascending_rows(sized, at, left - places):
-            rows.append((tree, *row))
-    return rows
+def _longer_rows(rows, found):
+    """Return the ascending rows, each with its indexes, that have one place more than the last ones of the rows."""
+    many = len(rows)
+    return [
+        ((*row, tree), (*indexes, index))
+        for index, (places, tree, _) in enumerate(found)
+        for row, indexes in rows[many - places]
+        if not row or indexes[-1] <= index
+    ]

@@ -1,5 +1,6 @@
 """Promises 3 and 9: signs and trees."""
 
+import time
 import unittest
 
 from broodcounts.errors import InvalidNumber, InvalidSigns, InvalidTree, TooMany
@@ -234,6 +235,31 @@ class TreesOfSizeTest(CallCase):
         for signs, places in [(["a"], 11), (["a"], 12), (["a", "b"], 7), (["a", "b"], 12), (SIGNS, 5),
                               (list("abcdefgh"), 4), (list("abcdefgh"), 12)]:
             self.assert_raises_exactly(TooMany, trees_of_size, signs, places)
+
+    def test_answers_near_a_thousand(self):
+        for signs, places, many in [(list("abcd"), 4, 752), (list("hgfedcba"), 3, 800), (["a"], 10, 719),
+                                    (["b", "a"], 6, 916)]:
+            found = trees_of_size(signs, places)
+            self.assertEqual(len(found), many)
+            self.assertEqual(len(set(found)), many)
+            self.assertEqual(found, sorted(found))
+            for tree in found:
+                self.assertEqual((size(signs, tree), plain(signs, tree)), (places, tree))
+        self.assert_raises_exactly(TooMany, trees_of_size, ["b", "a"], 7)
+
+    def test_too_many_are_told_soon(self):
+        calls = [(["b", "a"], 7), (list("abcdefgh"), 12), (["a", "b"], 12), (["a"], 11), (["a"], 12)]
+        begun = time.perf_counter()
+        for _ in range(20):
+            trees_of_size(["b", "a"], 6)
+        made = time.perf_counter() - begun
+        begun = time.perf_counter()
+        for signs, places in calls * 20:
+            self.assert_raises_exactly(TooMany, trees_of_size, signs, places)
+        told = time.perf_counter() - begun
+        # A hundred such calls take less than twenty that return 916 trees: nothing is made for them.
+        self.assertLess(told, made + 0.05)
+        self.assertLess(told, 1)
 
     def test_invalid_number(self):
         self.assert_each_raises(InvalidNumber, lambda places: trees_of_size(SIGNS, places), [
