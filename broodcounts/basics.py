@@ -1,4 +1,7 @@
-"""Names and integers, as the whole package knows them."""
+"""What the whole package rests on: names, integers, rules put into numbers, and the closed lots and broods."""
+
+from heapq import heappop, heappush
+from math import lcm
 
 LONGEST_NAME = 8
 
@@ -16,3 +19,183 @@ def is_number(thing, low, high):
     if not isinstance(thing, int) or isinstance(thing, bool):
         return False
     return low <= thing and (high is None or thing <= high)
+
+
+def fits(ask, number):
+    """Return whether a number fits an ask."""
+    _, low, high, step, rest = ask
+    return low <= number and (high is None or number <= high) and number % step == rest
+
+
+class Machine:
+    """Rules put into numbers.
+
+    A kind is its index in ``names``, a lot an ascending tuple of such indexes.
+    A number of brothers is told by its state: the least number that has the
+    same part in a brood. A brood is a tuple of the states of all kinds and, at
+    the end, of all brothers. A set of rules is an integer, a bit for each.
+    """
+
+    def __init__(self, signs, kinds, rules):
+        asks = [ask for _, _, row in rules for ask in row]
+        self.heads = list(signs)
+        self.names = list(kinds)
+        self.cap = 1 + max([bound for ask in asks for bound in ask[1:3] if bound is not None], default=0)
+        self.step = _common_step(asks)
+        self.states = self.cap + self.step
+        self.fitted = _fitted_rules(rules, self.names + [None], self.states)
+        self.made = {sign: _made_kinds(rules, sign, self.names) for sign in self.heads}
+
+
+def _common_step(asks):
+    """Return the least number that all steps of asks divide."""
+    step = 1
+    for ask in asks:
+        step = lcm(step, ask[3])
+    return step
+
+
+def _fitted_rules(rules, kinds, states):
+    """Return for each kind the list that has for each state the rules all of whose asks of the kind it fits."""
+    asked = {kind: [] for kind in kinds}
+    for index, (_, _, asks) in enumerate(rules):
+        for ask in asks:
+            asked[ask[0]].append((1 << index, ask))
+    return [[~_unfit_rules(asked[kind], state) for state in range(states)] for kind in kinds]
+
+
+def _unfit_rules(asked, state):
+    """Return the rules that have one of these asks which a state does not fit."""
+    rules = 0
+    for rule, ask in asked:
+        if not fits(ask, state):
+            rules = rules | rule
+    return rules
+
+
+def _made_kinds(rules, sign, kinds):
+    """Return the pairs of a kind that rules with a sign make, and of these rules, by ascending kinds."""
+    places = {kind: place for place, kind in enumerate(kinds)}
+    made = {}
+    for index, (kind, told, _) in enumerate(rules):
+        if told == sign:
+            made[places[kind]] = made.get(places[kind], 0) | (1 << index)
+    return sorted(made.items())
+
+
+def state_of(machine, number):
+    """Return the state of a number."""
+    return number if number < machine.states else machine.cap + (number - machine.cap) % machine.step
+
+
+def rules_held(machine, brood):
+    """Return the rules all of whose asks hold above a brood, whatever their signs are."""
+    rules = -1
+    for fitted, state in zip(machine.fitted, brood):
+        rules = rules & fitted[state]
+    return rules
+
+
+def lot_made(machine, sign, rules):
+    """Return the lot that a sign has where these rules hold."""
+    return tuple([kind for kind, makers in machine.made[sign] if rules & makers])
+
+
+def lot_in(machine, tree, hole):
+    """Return the lot of a tree, or of a frame that is filled with a tree of the lot hole."""
+    if tree is None:
+        return hole
+    return lot_made(machine, tree[0], rules_held(machine, brood_beneath(machine, tree, hole)))
+
+
+def brood_beneath(machine, tree, hole):
+    """Return the brood of the lots of a tree's brothers, or a frame's, filled likewise."""
+    numbers = [0] * len(machine.fitted)
+    numbers[-1] = len(tree) - 1
+    for brother in tree[1:]:
+        for kind in lot_in(machine, brother, hole):
+            numbers[kind] += 1
+    return tuple([state_of(machine, number) for number in numbers])
+
+
+def steps_of(machine, lot):
+    """Return for each part of a brood the list of the states that one brother of a lot leads to."""
+    stays = list(range(machine.states))
+    grows = stays[1:] + [machine.cap]
+    return [grows if kind in lot else stays for kind in range(len(machine.names))] + [grows]
+
+
+def stepped(brood, steps):
+    """Return the brood that one brother whose steps these are leads to."""
+    return tuple([row[state] for row, state in zip(steps, brood)])
+
+
+def named(machine, lot):
+    """Return a lot by the names of its kinds."""
+    return tuple([machine.names[kind] for kind in lot])
+
+
+class Closure:
+    """All lots and broods that trees have.
+
+    ``heads`` are the signs, ``members`` the lots, by the names of their kinds;
+    they ascend by the least size of their trees, which ``sizes`` tells.
+    ``broods`` ascend by the least number of places in lists of trees that have
+    them, which ``weights`` tells. Everywhere else a lot or a brood is its index
+    in these lists. ``makers`` tells for each lot the (sign, brood) of a least
+    tree, ``sources`` for each brood but the first, empty one the (brood, lot)
+    that it grows from in a least list. ``moves[brood][lot]`` is the brood grown
+    by a lot, ``answers[brood]`` the tuple of the lots of all signs above it.
+    """
+
+    def __init__(self, machine, lots, broods, moves, answers):
+        self.heads = list(machine.heads)
+        self.members = [named(machine, row[0]) for row in lots]
+        self.sizes = [row[1] for row in lots]
+        self.makers = [row[2] for row in lots]
+        self.broods = [row[0] for row in broods]
+        self.weights = [row[1] for row in broods]
+        self.sources = [row[2] for row in broods]
+        self.moves = moves
+        self.answers = answers
+
+
+def closed(machine):
+    """Return the closure of a machine."""
+    start = (0,) * len(machine.fitted)
+    queue = [(0, start, (0, 0))]
+    best = {start: 0}
+    lots = []
+    places = {}
+    broods = []
+    indexes = {}
+    grown = {}
+    answers = []
+    while queue:
+        weight, brood, source = heappop(queue)
+        if brood in indexes:
+            continue
+        index = len(broods)
+        indexes[brood] = index
+        broods.append((brood, weight, source))
+        grown[index] = []
+        rules = rules_held(machine, brood)
+        made = [lot_made(machine, sign, rules) for sign in machine.heads]
+        before = index
+        for sign, lot in zip(machine.heads, made):
+            # Broods come by ascending weight: a lot is first met above the brood of a least tree.
+            if lot not in places:
+                places[lot] = len(lots)
+                lots.append((lot, weight + 1, (sign, index), steps_of(machine, lot)))
+                before = 0
+        answers.append(tuple([places[lot] for lot in made]))
+        for at in range(before, index + 1):
+            for place in range(len(grown[at]), len(lots)):
+                more = stepped(broods[at][0], lots[place][3])
+                cost = broods[at][1] + lots[place][1]
+                if more not in best or cost < best[more]:
+                    best[more] = cost
+                    heappush(queue, (cost, more, (at, place)))
+                grown[at].append(more)
+    moves = [[indexes[more] for more in grown[index]] for index in range(len(broods))]
+    return Closure(machine, lots, broods, moves, answers)

@@ -1,6 +1,6 @@
 """Asks, rules, and the books that hold rules."""
 
-from broodcounts.basics import is_name, is_number
+from broodcounts.basics import Machine, closed, fits, is_name, is_number
 from broodcounts.errors import InvalidAsk, InvalidMatch, InvalidNumber, InvalidRules
 from broodcounts.trees import check_signs
 
@@ -21,12 +21,6 @@ def is_ask(thing):
     if high is not None and not is_number(high, low, GREATEST_BOUND):
         return False
     return is_number(step, 1, GREATEST_STEP) and is_number(rest, 0, step - 1)
-
-
-def fits(ask, number):
-    """Return whether a number fits an ask."""
-    _, low, high, step, rest = ask
-    return low <= number and (high is None or number <= high) and number % step == rest
 
 
 def is_fit(ask, number):
@@ -73,6 +67,8 @@ class Book:
         self._signs = list(signs)
         self._rules = list(rules)
         self._kinds = _kinds_in(rules)
+        self._machine = None
+        self._closure = None
 
     @property
     def signs(self):
@@ -88,6 +84,20 @@ class Book:
     def kinds(self):
         """Return the ascending list of the kinds."""
         return list(self._kinds)
+
+    @property
+    def machine(self):
+        """Return the rules put into numbers; worked out once, and only read."""
+        if self._machine is None:
+            self._machine = Machine(self._signs, self._kinds, self._rules)
+        return self._machine
+
+    @property
+    def closure(self):
+        """Return all lots and broods that trees have; worked out once, and only read."""
+        if self._closure is None:
+            self._closure = closed(self.machine)
+        return self._closure
 
     def __len__(self):
         return len(self._rules)

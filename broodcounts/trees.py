@@ -24,6 +24,11 @@ def check_signs(signs):
 def is_tree(signs, thing):
     """Return whether an object is a tree of signs."""
     check_signs(signs)
+    return is_grown(signs, thing)
+
+
+def is_grown(signs, thing):
+    """Return whether an object is a tree of what surely are signs."""
     waiting = [thing]
     while waiting:
         part = waiting.pop()

@@ -1,6 +1,5 @@
 """What several test files need: objects of every kind, and checks of calls."""
 
-import copy
 import itertools
 import unittest
 
@@ -15,6 +14,29 @@ LEAVES = [("leaf", "a", (NO_BROTHERS,)), ("leaf", "b", (NO_BROTHERS,))]
 RULES = LEAVES + [
     ("even", "f", (("leaf", 0, None, 2, 0), ("even", 0, 1, 1, 0))),
     ("wide", "f", (("leaf", 3, None, 1, 0),)),
+]
+
+
+BOOK = Book(SIGNS, RULES)
+# Books near the bounds: three kinds, eight lots, 684 broods, and eight signs or two.
+MANY_SIGNS = Book(list("abcdefgh"), [
+    ("z", "f", (("y", 1, None, 3, 2),)), ("y", "g", ((None, 0, 1, 1, 0), ("y", 1, 2, 3, 0))),
+    ("x", "g", (("x", 2, None, 1, 0),)), ("x", "f", (("x", 1, 2, 1, 0), (None, 1, 1, 1, 0))),
+    ("z", "f", (("z", 1, None, 1, 0),)), ("y", "e", (("z", 0, 0, 1, 0),)), ("z", "b", (("z", 1, 1, 1, 0),)),
+    ("z", "g", (("x", 2, None, 3, 1),)), ("x", "c", (("x", 0, 2, 3, 0),)), ("y", "f", (("z", 0, 2, 1, 0),)),
+])
+TWO_SIGNS = Book(["a", "b"], [
+    ("x", "a", (("z", 2, 2, 3, 2),)), ("x", "a", (("x", 0, None, 3, 0),)), ("x", "b", ()),
+    ("z", "a", ((None, 1, 1, 1, 0),)), ("y", "b", ()), ("y", "a", (("y", 1, None, 1, 0),)), ("x", "b", ()),
+    ("x", "a", (("x", 2, None, 1, 0),)), ("z", "b", ()), ("y", "b", ((None, 1, None, 3, 2), ("y", 2, 2, 1, 0))),
+])
+NO_WISHES = [
+    "", "abcdefghi", "A", "a b", "a1", None, True, False, 0, 1, [], ["a"], {}, (), ("a",), ("a", "b"), ("not",),
+    ("not", "a", "b"), ("and", "a"), ("and",), ("or", "a", "b", "c"), ("or", "a"), ("a", "b", "c"), ("nor", "a", "b"),
+    ("NOT", "a"), ("not", "A"), ("not", ""), ("not", ()), ("not", None), ("not", ["a"]), ("not", ("not",)),
+    ["not", "a"], ["and", "a", "b"], ("and", "a", ["not", "b"]), ("and", "a", None), ("or", "abcdefghi", "a"),
+    ("or", "a", ("and", "b", ("not", "C"))), ("not", ("not", ("not", ("and", "a", 1)))), (("not",), "a"),
+    (["and"], "a", "b"), (None, "a"), (True, "a", "b"), ("not", ("a",)), (("not", "a"), "b"),
 ]
 
 
@@ -76,6 +98,15 @@ def alike_by_definition(one, other):
     )
 
 
+def snapshot(thing):
+    """What an object looks like now, books within it, too; True is told from 1 here, which == does not."""
+    if isinstance(thing, Book):
+        return f"Book({thing.signs!r}, {thing.rules!r}, {thing.kinds!r})"
+    if isinstance(thing, (list, tuple)):
+        return type(thing).__name__ + "(" + ", ".join(map(snapshot, thing)) + ")"
+    return repr(thing)
+
+
 class CallCase(unittest.TestCase):
     """A test case that can check calls for errors, changed arguments and bools."""
 
@@ -102,10 +133,9 @@ class CallCase(unittest.TestCase):
         self.assertIs(type(caught.exception), error)
 
     def assert_leaves_unchanged(self, call, *passed):
-        before = copy.deepcopy(passed)
+        before = snapshot(passed)
         try:
             call(*passed)
         except BroodError:
             pass
-        # repr also tells True from 1, which == does not.
-        self.assertEqual(repr(passed), repr(before))
+        self.assertEqual(snapshot(passed), before)
