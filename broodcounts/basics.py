@@ -118,11 +118,35 @@ def brood_beneath(machine, tree, hole):
     return tuple([state_of(machine, number) for number in numbers])
 
 
-def steps_of(machine, lot):
+def full_loops(machine):
+    """Return for each part of the document's broods the pair of the state behind the last one and their number."""
+    return [(machine.cap, machine.states)] * len(machine.fitted)
+
+
+def short_loops(machine):
+    """Return such pairs for as few states as tell which rules hold, whatever the cap and the step are."""
+    return [_short_loop(fitted, machine.cap) for fitted in machine.fitted]
+
+
+def _short_loop(fitted, cap):
+    """Return the pair for the fewest states that tell which of these rules hold."""
+    loop = fitted[cap:]
+    step = min([size for size in range(1, len(loop) + 1) if loop == loop[size:] + loop[:size]])
+    back = cap
+    while back > 0 and fitted[back - 1] == fitted[back - 1 + step]:
+        back = back - 1
+    return (back, back + step)
+
+
+def steps_of(loops, lot):
     """Return for each part of a brood the list of the states that one brother of a lot leads to."""
-    stays = list(range(machine.states))
-    grows = stays[1:] + [machine.cap]
-    return [grows if kind in lot else stays for kind in range(len(machine.names))] + [grows]
+    last = len(loops) - 1
+    return [_steps(back, states, at in lot or at == last) for at, (back, states) in enumerate(loops)]
+
+
+def _steps(back, states, grows):
+    """Return for each state the one behind it if a part grows, and else itself."""
+    return list(range(1, states)) + [back] if grows else list(range(states))
 
 
 def stepped(brood, steps):
@@ -136,7 +160,7 @@ def named(machine, lot):
 
 
 class Closure:
-    """All lots and broods that trees have.
+    """All lots and broods that trees have; the broods are told by the states of some loops.
 
     ``heads`` are the signs, ``members`` the lots, by the names of their kinds;
     they ascend by the least size of their trees, which ``sizes`` tells.
@@ -160,9 +184,9 @@ class Closure:
         self.answers = answers
 
 
-def closed(machine):
-    """Return the closure of a machine."""
-    start = (0,) * len(machine.fitted)
+def closed(machine, loops):
+    """Return the closure of a machine by these loops."""
+    start = (0,) * len(loops)
     queue = [(0, start, (0, 0))]
     best = {start: 0}
     lots = []
@@ -186,7 +210,7 @@ def closed(machine):
             # Broods come by ascending weight: a lot is first met above the brood of a least tree.
             if lot not in places:
                 places[lot] = len(lots)
-                lots.append((lot, weight + 1, (sign, index), steps_of(machine, lot)))
+                lots.append((lot, weight + 1, (sign, index), steps_of(loops, lot)))
                 before = 0
         answers.append(tuple([places[lot] for lot in made]))
         for at in range(before, index + 1):
@@ -197,5 +221,5 @@ def closed(machine):
                     best[more] = cost
                     heappush(queue, (cost, more, (at, place)))
                 grown[at].append(more)
-    moves = [[indexes[more] for more in grown[index]] for index in range(len(broods))]
+    moves = [[indexes[after] for after in grown[number]] for number in range(len(broods))]
     return Closure(machine, lots, broods, moves, answers)

@@ -1,6 +1,6 @@
 """Asks, rules, and the books that hold rules."""
 
-from broodcounts.basics import Machine, closed, fits, is_name, is_number
+from broodcounts.basics import Machine, closed, fits, full_loops, is_name, is_number, short_loops
 from broodcounts.errors import InvalidAsk, InvalidMatch, InvalidNumber, InvalidRules
 from broodcounts.trees import check_signs
 
@@ -69,6 +69,7 @@ class Book:
         self._kinds = _kinds_in(rules)
         self._machine = None
         self._closure = None
+        self._full_closure = None
 
     @property
     def signs(self):
@@ -94,10 +95,17 @@ class Book:
 
     @property
     def closure(self):
-        """Return all lots and broods that trees have; worked out once, and only read."""
+        """Return all lots, and as few broods as tell which rules hold; worked out once, and only read."""
         if self._closure is None:
-            self._closure = closed(self.machine)
+            self._closure = closed(self.machine, short_loops(self.machine))
         return self._closure
+
+    @property
+    def full_closure(self):
+        """Return all lots, and all broods that the document tells apart; worked out once, and only read."""
+        if self._full_closure is None:
+            self._full_closure = closed(self.machine, full_loops(self.machine))
+        return self._full_closure
 
     def __len__(self):
         return len(self._rules)

@@ -1,6 +1,6 @@
 """Tables: all lots of a book, each with a tree, and the broods that show that there are no more."""
 
-from broodcounts.basics import lot_in, lot_made, named, rules_held, stepped, steps_of
+from broodcounts.basics import full_loops, lot_in, lot_made, named, rules_held, stepped, steps_of
 from broodcounts.broods import is_brood, is_lot, states_in, told_brood
 from broodcounts.made import least_tree
 from broodcounts.trees import is_grown
@@ -16,7 +16,7 @@ def lots(book):
 def table(book):
     """Return a table of a book, with a least tree for each lot."""
     check_book(book)
-    closure = book.closure
+    closure = book.full_closure
     rows = [(lot, least_tree(closure, index)) for index, lot in enumerate(closure.members)]
     return (sorted(rows), [told_brood(book.machine, brood) for brood in closure.broods])
 
@@ -61,7 +61,7 @@ def _are_broods(machine, broods):
 
 def _are_closed(machine, told, broods):
     """Return whether all that grows from the empty brood by these lots is among these lots and broods."""
-    steps = [steps_of(machine, lot) for lot in told]
+    steps = [steps_of(full_loops(machine), lot) for lot in told]
     there = {brood: True for brood in broods}
     if (0,) * len(machine.fitted) not in there:
         return False

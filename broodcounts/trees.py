@@ -110,12 +110,12 @@ def alike(signs, one, other):
     return made_plain(one) == made_plain(other)
 
 
-def numbers_of_trees(many, size):
-    """Return the list of how many plain trees of so many signs have 0, 1, 2 .. places, up to a size."""
+def numbers_of_trees(many, most):
+    """Return the list of how many plain trees of so many signs have 0, 1, 2 .. places, up to the most."""
     trees = [0]
     rows = [1]
     shares = [0]
-    for places in range(1, size + 1):
+    for places in range(1, most + 1):
         trees.append(many * rows[places - 1])
         # What brothers of each size add to rows, counted by their places (Euler's transform): so none is made.
         shares.append(sum([part * trees[part] for part in range(1, places + 1) if places % part == 0]))
@@ -123,9 +123,14 @@ def numbers_of_trees(many, size):
     return trees
 
 
-def check_few(signs, size):
-    """Raise TooMany if there are more than a thousand plain trees of a size."""
-    if numbers_of_trees(len(signs), size)[size] > MOST_TREES:
+def has_few(signs, places):
+    """Return whether at most a thousand plain trees have so many places."""
+    return numbers_of_trees(len(signs), places)[places] <= MOST_TREES
+
+
+def check_few(signs, places):
+    """Raise TooMany if more than a thousand plain trees have so many places."""
+    if not has_few(signs, places):
         raise TooMany("there are more than a thousand trees of this size")
 
 
@@ -138,14 +143,14 @@ def trees_of_size(signs, size):
     return [tree for places, tree, _ in numbered_trees(signs, size) if places == size]
 
 
-def numbered_trees(signs, size):
-    """Return all plain trees up to a size, ascending, as tuples of size, tree and its brothers' indexes here."""
+def numbered_trees(signs, most):
+    """Return all plain trees of at most so many places, ascending, as (places, tree, its brothers' indexes here)."""
     found = []
     rows = [[((), ())]]
-    for places in range(1, size + 1):
+    for places in range(1, most + 1):
         brothers = sorted(rows[places - 1])
         found = found + [(places, (sign, *row), indexes) for sign in sorted(signs) for row, indexes in brothers]
-        if places < size:
+        if places < most:
             rows.append(_longer_rows(rows, found))
     return found
 

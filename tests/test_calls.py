@@ -4,29 +4,42 @@ import itertools
 import time
 import unittest
 
+from broodcounts.beside import are_alike, holds, parting
 from broodcounts.books import Book
 from broodcounts.broods import brood_of, cap_and_step, grown, step
+from broodcounts.counting import count, listed, place_of, tree_at
+from broodcounts.endless import all_trees, growth, is_finite, is_growth
 from broodcounts.errors import (
-    InvalidBook, InvalidBrood, InvalidLot, InvalidLots, InvalidTree, InvalidWish, UnknownSign,
+    InvalidBook, InvalidBrood, InvalidFrame, InvalidLot, InvalidLots, InvalidNumber, InvalidSigns, InvalidTree,
+    InvalidWish, TooMany, UnknownSign,
 )
 from broodcounts.made import is_made, least, least_size
+from broodcounts.surroundings import are_kin, filled, is_frame, is_parter, kin_classes, parter
 from broodcounts.tables import is_table, lots, table
-from broodcounts.trees import is_tree
+from broodcounts.trees import is_signs, is_tree
 from broodcounts.wishes import is_of, is_wish, is_wished, lot_of
 from tests.support import (
     A, BOOK, MANY_SIGNS, NO_WISHES, RULES, SIGNS, TWO_SIGNS, CallCase, nested, odd_objects, snapshot,
 )
+from tests.test_trees import NO_SIGNS
 
 TREE = ("f", ("f", A, A), ("b",), A)
 WISH = ("and", "even", ("not", ("or", "wide", "nokind")))
 BROOD = ((0, 0), (2, 0), (1, 1), (3, 1))
+FRAME = ("f", None, ("f", ("b",), None), A)
+OTHER = Book(SIGNS[::-1], RULES[:3])
+# Trees at the bounds: five thousand places in all, or forty deep.
+WIDE = ("b", *[A] * 4999)
+DEEP = ("b", *[nested(39, lambda part: ("b", part) if part else A)] * 128)
 # Each call, its arguments in order, and the errors listed for them, in the order in which they are listed.
+ASKED = {"book": InvalidBook, "wish": InvalidWish}
+PAIR = {**ASKED, "one": InvalidTree, "other": InvalidTree}
+BOTH = {"one": InvalidBook, "wish": InvalidWish, "other": InvalidBook, "other_wish": InvalidWish}
 CALLS = [
     (is_wish, {"thing": WISH}, {}),
     (is_wished, {"wish": WISH, "lot": ("even",)}, {"wish": InvalidWish, "lot": InvalidLot}),
     (lot_of, {"book": BOOK, "tree": TREE}, {"book": InvalidBook, "tree": InvalidTree}),
-    (is_of, {"book": BOOK, "wish": WISH, "tree": TREE},
-     {"book": InvalidBook, "wish": InvalidWish, "tree": InvalidTree}),
+    (is_of, {"book": BOOK, "wish": WISH, "tree": TREE}, {**ASKED, "tree": InvalidTree}),
     (cap_and_step, {"book": BOOK}, {"book": InvalidBook}),
     (brood_of, {"book": BOOK, "lots": [("leaf",), ("even", "wide")]}, {"book": InvalidBook, "lots": InvalidLots}),
     (grown, {"book": BOOK, "brood": BROOD, "lot": ("even", "leaf")},
@@ -36,48 +49,75 @@ CALLS = [
     (lots, {"book": BOOK}, {"book": InvalidBook}),
     (table, {"book": BOOK}, {"book": InvalidBook}),
     (is_table, {"book": BOOK, "thing": table(BOOK)}, {"book": InvalidBook}),
-    (is_made, {"book": BOOK, "wish": WISH}, {"book": InvalidBook, "wish": InvalidWish}),
-    (least_size, {"book": BOOK, "wish": WISH}, {"book": InvalidBook, "wish": InvalidWish}),
-    (least, {"book": BOOK, "wish": WISH}, {"book": InvalidBook, "wish": InvalidWish}),
+    (is_made, {"book": BOOK, "wish": WISH}, ASKED),
+    (least_size, {"book": BOOK, "wish": WISH}, ASKED),
+    (least, {"book": BOOK, "wish": WISH}, ASKED),
+    (is_finite, {"book": BOOK, "wish": WISH}, ASKED),
+    (all_trees, {"book": BOOK, "wish": "leaf"}, ASKED),
+    (growth, {"book": BOOK, "wish": "wide"}, ASKED),
+    (growth, {"book": BOOK, "wish": "even"}, ASKED),
+    (is_growth, {"book": BOOK, "wish": "wide", "thing": ("wide", ("f", A, A, A, A), [A, ("b",)], None)}, ASKED),
+    (holds, {"one": BOOK, "wish": "even", "other": OTHER, "other_wish": WISH}, BOTH),
+    (parting, {"one": BOOK, "wish": "even", "other": OTHER, "other_wish": WISH}, BOTH),
+    (are_alike, {"one": BOOK, "wish": "even", "other": OTHER, "other_wish": WISH}, BOTH),
+    (count, {"book": BOOK, "wish": WISH, "size": 5}, {**ASKED, "size": InvalidNumber}),
+    (listed, {"book": BOOK, "wish": WISH, "size": 3}, {**ASKED, "size": InvalidNumber}),
+    (tree_at, {"book": BOOK, "wish": WISH, "size": 3, "index": 2},
+     {**ASKED, "size": InvalidNumber, "index": InvalidNumber}),
+    (place_of, {"book": BOOK, "wish": WISH, "tree": ("f", ("b",), A)}, {**ASKED, "tree": InvalidTree}),
+    (is_frame, {"signs": SIGNS, "thing": FRAME}, {"signs": InvalidSigns}),
+    (filled, {"signs": SIGNS, "frame": FRAME, "tree": TREE},
+     {"signs": InvalidSigns, "frame": InvalidFrame, "tree": InvalidTree}),
+    (parter, {"book": BOOK, "wish": "wide", "one": A, "other": TREE}, PAIR),
+    (is_parter, {"book": BOOK, "wish": "wide", "one": A, "other": TREE, "thing": ("f", A, None, A)}, PAIR),
+    (are_kin, {"book": BOOK, "wish": "wide", "one": A, "other": TREE}, PAIR),
+    (kin_classes, {"book": BOOK, "wish": "wide"}, ASKED),
 ]
 # Odd objects that are right for an argument after all.
 RIGHT = {
-    "book": lambda thing: isinstance(thing, Book),
-    "wish": lambda thing: thing in ("a", "abcdefgh"),
-    "tree": lambda thing: is_tree(SIGNS, thing),
-    "lot": lambda thing: thing in ((), ("z",)),
-    "lots": lambda thing: isinstance(thing, list) and all(part == () for part in thing),
-    "sign": lambda thing: thing == "a",
-    "brood": lambda thing: False,
+    InvalidSigns: is_signs,
+    InvalidBook: lambda thing: isinstance(thing, Book),
+    InvalidWish: lambda thing: thing in ("a", "abcdefgh"),
+    InvalidTree: lambda thing: is_tree(SIGNS, thing),
+    InvalidFrame: lambda thing: thing is None or repr(thing).startswith("('a', ('a', ("),
+    InvalidLot: lambda thing: thing in ((), ("z",)),
+    InvalidLots: lambda thing: isinstance(thing, list) and all(part == () for part in thing),
+    InvalidNumber: lambda thing: isinstance(thing, int) and not isinstance(thing, bool),
+    UnknownSign: lambda thing: thing == "a",
+    InvalidBrood: lambda thing: False,
 }
 MORE = {
-    "book": [(SIGNS, RULES), [SIGNS, RULES], [BOOK], (BOOK,), Book],
-    "wish": NO_WISHES,
-    "tree": [("f", A, None), ("f", (None,)), ("f", A, [A]), ("z",), ("f", ("f", ("f", ("z",)))), (BOOK, A)],
-    "lot": [["leaf"], ("leaf", "even"), ("leaf", "leaf"), ("even", "Leaf"), ("even", None), (("even",),), "leaf",
-            {"leaf": True}, (BOOK,), ("even", True), (["even"],)],
-    "lots": [("leaf",), [["leaf"]], [("leaf", "even")], [("leaf", "leaf")], [("leaf",), None], [("leaf",), "leaf"],
-             ["leaf"], (("leaf",),), [("nokind",)], [("leaf",), ("even", "nokind")], {"leaf": ()}, [(BOOK,)]],
-    "sign": ["z", "F", "", ("f",), ["f"], None, 0, SIGNS],
-    "brood": [(), BROOD[:3], (*BROOD, (0, 0)), list(BROOD), ((0, 0), (2, 0), (1, 1), [3, 1]), (BROOD,)],
+    InvalidSigns: NO_SIGNS,
+    InvalidBook: [(SIGNS, RULES), [SIGNS, RULES], [BOOK], (BOOK,), Book],
+    InvalidWish: NO_WISHES,
+    InvalidTree: [("f", A, None), ("f", (None,)), ("f", A, [A]), ("z",), ("f", ("f", ("f", ("z",)))), (BOOK, A), FRAME],
+    InvalidFrame: [A, TREE, ("f", [None]), ("z", None), ("f", None, ("z",)), ("f", None, ()), (None,), ["f", None],
+                   (None, None), ("f", ("f", None), ("f", (None, A)))],
+    InvalidLot: [["leaf"], ("leaf", "even"), ("leaf", "leaf"), ("even", "Leaf"), ("even", None), (("even",),), "leaf",
+                 {"leaf": True}, (BOOK,), ("even", True), (["even"],)],
+    InvalidLots: [("leaf",), [["leaf"]], [("leaf", "even")], [("leaf", "leaf")], [("leaf",), None], [("leaf",), "leaf"],
+                  ["leaf"], (("leaf",),), [("nokind",)], [("leaf",), ("even", "nokind")], {"leaf": ()}, [(BOOK,)]],
+    InvalidNumber: [-1, 21, 10 ** 39, -(10 ** 39), "1", [1], (1,)],
+    UnknownSign: ["z", "F", "", ("f",), ["f"], None, 0, SIGNS],
+    InvalidBrood: [(), BROOD[:3], (*BROOD, (0, 0)), list(BROOD), ((0, 0), (2, 0), (1, 1), [3, 1]), (BROOD,)],
 }
 
 
-def wrong_things(name):
-    return MORE[name] + [thing for thing in odd_objects() if not RIGHT[name](thing)]
+def wrong_things(error):
+    return MORE[error] + [thing for thing in odd_objects() if not RIGHT[error](thing)]
 
 
 class ErrorsTest(CallCase):
     def test_each_wrong_argument_by_any_object(self):
         for call, passed, errors in CALLS:
             for name, error in errors.items():
-                self.assert_each_raises(error, lambda thing: call(**{**passed, name: thing}), wrong_things(name))
+                self.assert_each_raises(error, lambda thing: call(**{**passed, name: thing}), wrong_things(error))
 
     def test_of_several_errors_the_first_one_listed(self):
         for call, passed, errors in CALLS:
             for many in range(2, len(errors) + 1):
                 for names in itertools.combinations(errors, many):
-                    for thing in (None, True, [[]], {}, nested(60, lambda part: (part,))):
+                    for thing in (True, [[]], {}, nested(60, lambda part: (part,))):
                         wrong = {**passed, **{name: thing for name in names}}
                         with self.subTest(call=call.__name__, names=names, thing=repr(thing)[:40]):
                             self.assert_raises_exactly(errors[names[0]], call, *wrong.values())
@@ -85,7 +125,8 @@ class ErrorsTest(CallCase):
     def test_any_object_where_any_object_is_accepted(self):
         for call, passed, _ in CALLS:
             if "thing" in passed and call is not is_wish:
-                self.assert_each_false(lambda thing: call(**{**passed, "thing": thing}), odd_objects())
+                things = [thing for thing in odd_objects() if call is not is_frame or not RIGHT[InvalidFrame](thing)]
+                self.assert_each_false(lambda thing: call(**{**passed, "thing": thing}), things)
 
 
 class ArgumentsTest(CallCase):
@@ -97,8 +138,8 @@ class ArgumentsTest(CallCase):
     def test_arguments_stay_as_they_are(self):
         for call, passed, errors in CALLS:
             self.assert_leaves_unchanged(call, *passed.values())
-            for name in errors:
-                for thing in MORE[name]:
+            for name, error in errors.items():
+                for thing in MORE[error]:
                     self.assert_leaves_unchanged(call, *{**passed, name: thing}.values())
 
     def test_what_is_told_may_be_changed(self):
@@ -131,8 +172,7 @@ class ArgumentsTest(CallCase):
     def test_a_book_that_was_asked_is_the_same_book(self):
         book = Book(SIGNS, RULES)
         for call, passed, _ in CALLS:
-            if "book" in passed:
-                call(**{**passed, "book": book})
+            call(**{name: book if thing is BOOK else thing for name, thing in passed.items()})
         self.assertEqual(snapshot(book), snapshot(Book(SIGNS, RULES)))
         self.assertEqual(book, Book(SIGNS, RULES))
 
@@ -149,23 +189,47 @@ class ArgumentsTest(CallCase):
 
 
 class BoundsTest(CallCase):
+    def check(self, call, *passed):
+        begun = time.perf_counter()
+        try:
+            told = call(*passed)
+        except TooMany:
+            told = None
+        self.assertLess(time.perf_counter() - begun, 1, call.__name__)
+        return told
+
     def test_calls_at_the_bounds_end_soon(self):
         wish = ("or", ("and", "x", ("not", "y")), ("and", "y", ("not", ("or", "z", "x"))))
-        for book in (MANY_SIGNS, TWO_SIGNS):
-            for tree in (("b", *[A] * 4999), ("b", *[self.deep(39)] * 128)):
-                told = {"wish": wish, "sign": "b", "brood": table(book)[1][-1], "lot": ("x", "z"), "tree": tree,
-                        "lots": lots(book) * 600, "thing": table(book)}
-                for call, names, _ in CALLS:
-                    fresh = {**told, "book": Book(book.signs, book.rules)}
-                    begun = time.perf_counter()
-                    call(**{name: fresh[name] for name in names})
-                    self.assertLess(time.perf_counter() - begun, 1, call.__name__)
+        for same in (MANY_SIGNS, TWO_SIGNS):
+            told, brood = table(same), table(same)[1][-1]
+            frame = ("b", *[None] * 4999)
+            for call, *passed in [
+                (cap_and_step,), (brood_of, lots(same) * 600), (grown, brood, ("x", "z")), (step, "b", brood), (lots,),
+                (table,), (is_table, told), (is_made, wish), (least_size, wish), (least, wish), (is_finite, wish),
+                (all_trees, wish), (growth, wish), (is_growth, wish, ("deep", WIDE, frame, frame)),
+                (is_growth, wish, ("wide", DEEP, [DEEP] * 6, frame)), (count, wish, 20), (listed, wish, 3),
+                (listed, wish, 12), (tree_at, wish, 3, 0), (tree_at, wish, 12, 0), (place_of, ("not", "no"), A),
+                (parter, wish, WIDE, DEEP), (is_parter, wish, WIDE, DEEP, ("b", *[A] * 4998, None)),
+                (are_kin, wish, WIDE, DEEP), (kin_classes, wish), (lot_of, WIDE), (lot_of, DEEP), (is_of, wish, DEEP),
+            ]:
+                self.check(call, Book(same.signs, same.rules), *passed)
+            self.check(filled, same.signs, frame, DEEP)
+            self.check(is_frame, same.signs, frame)
 
-    def deep(self, levels):
-        tree = ("a",)
-        for _ in range(levels - 1):
-            tree = ("b", tree)
-        return tree
+    def test_two_books_at_the_bounds(self):
+        one = Book(["a", "b"], [("x", "a", (("y", 1, 5, 2, 1),)), ("y", "b", (("x", 0, 4, 3, 1), (None, 1, None, 1, 0)))])
+        other = Book(["b", "a"], [("x", "b", (("x", 0, 2, 1, 0),)), ("z", "a", ((None, 5, None, 1, 0),))])
+        for call in (holds, parting, are_alike):
+            self.check(call, one, ("or", "x", "y"), other, ("not", "x"))
+            self.check(call, TWO_SIGNS, "x", Book(["a", "b"], []), "x")
+            self.check(call, MANY_SIGNS, "x", Book(MANY_SIGNS.signs, [("x", "a", ())]), ("not", "x"))
+
+    def test_what_is_filled_may_be_greater(self):
+        frame = ("b", *[nested(39, lambda part: ("b", part))] * 128)
+        whole = self.check(filled, ["a", "b"], frame, DEEP)
+        self.assertEqual((len(whole), whole[1]), (129, whole[128]))
+        self.check(is_growth, TWO_SIGNS, "x", ("deep", DEEP, frame, frame))
+        self.check(is_parter, TWO_SIGNS, "x", DEEP, WIDE, nested(39, lambda part: ("b", part)))
 
 
 if __name__ == "__main__":
