@@ -1,6 +1,7 @@
 """Promises 8 and 15: wishes with finitely many trees, all of them, and growths of the others."""
 
 import random
+import time
 import unittest
 
 from broodcounts.books import Book
@@ -69,6 +70,24 @@ class FiniteTest(CallCase):
         self.assertIsNotNone(growth(TOP, "top")[3])
         self.assertIsNotNone(growth(RING, "top")[3])
 
+    def test_trees_that_stand_deeper_within(self):
+        for grows in (only("k", "f", "leaf", 1) + only("k", "f", "k", 1), flat(("leaf", 1, None, 1, 0))):
+            book = Book(SIGNS, [("leaf", "a", (LEAF,)), *grows, *only("x", "b", "k", 1), *only("y", "b", "x", 1),
+                                *only("z", "b", "y", 1)])
+            self.assertEqual([is_finite(book, wish) for wish in ("leaf", "k", "x", "y", "z")], [True] + [False] * 4)
+            for wish in "xyz":
+                self.assertIs(is_growth(book, wish, growth(book, wish)), True)
+
+    def test_rings_of_several_lots(self):
+        for many in (2, 3):
+            names = "xyz"[:many]
+            rings = [rule for at, name in enumerate(names) for rule in only(name, "f", names[at - 1], 1)]
+            book = Book(SIGNS, [*rings, ("x", "a", (LEAF,)), *only("top", "b", "y", 2)])
+            for wish in [*names, "top"]:
+                self.assertIs(is_finite(book, wish), False)
+                self.assertIs(is_growth(book, wish, growth(book, wish)), True)
+            self.assertIs(is_finite(Book(SIGNS, rings), "x"), True)
+
     def test_rings_that_lead_elsewhere(self):
         book = Book(SIGNS, [("leaf", "a", (LEAF,)), *only("x", "f", "x", 1), *only("y", "b", "leaf", 1, 2, 3)])
         self.assertEqual([is_finite(book, wish) for wish in ("x", "y", ("or", "x", "y"))], [True, True, True])
@@ -112,6 +131,14 @@ class AllTreesTest(CallCase):
         for wish in ("y", "z", ("or", "leaf", "z")):
             self.assertIs(is_finite(book, wish), True)
             self.assert_raises_exactly(TooMany, all_trees, book, wish)
+
+    def test_far_too_many_are_told_soon(self):
+        leaves = [("leaf", sign, (LEAF,)) for sign in "abcdefgh"]
+        book = Book(list("abcdefgh"), leaves + only("y", "a", "leaf", 3) + only("z", "b", "y", 5))
+        self.assertEqual(len(all_trees(book, "y")), 120)
+        begun = time.perf_counter()
+        self.assert_raises_exactly(TooMany, all_trees, book, "z")
+        self.assertLess(time.perf_counter() - begun, 1)
 
     def test_no_end(self):
         for book, wish in [(BOOK, "wide"), (WIDE, "k"), (RING, "k"), (TOP, "top"), (BOOK, ("not", "nokind"))]:

@@ -131,6 +131,19 @@ class LanguageTest(unittest.TestCase):
                 if isinstance(node, ast.Call) and isinstance(node.func, ast.Name) and node.func.id in EAGER:
                     self.assertFalse(any(isinstance(passed, ast.GeneratorExp) for passed in node.args))
 
+    def test_no_attribute_is_assigned_that_has_the_name_of_a_property(self):
+        nodes = [node for tree in read_trees() for node in ast.walk(tree)]
+        properties = {node.name for node in nodes if isinstance(node, ast.FunctionDef) and node.decorator_list}
+        self.assertIn("kinds", properties)
+        for node in nodes:
+            if isinstance(node, ast.Attribute) and isinstance(node.ctx, ast.Store):
+                self.assertNotIn(node.attr, properties)
+
+    def test_no_parameter_or_variable_has_the_name_of_an_import(self):
+        for tree in read_trees():
+            imported = {name.name for node in tree.body if isinstance(node, ast.ImportFrom) for name in node.names}
+            self.assertFalse(imported & set(given_names(tree)))
+
     def test_no_sort_in_place_and_no_remainder_sign_in_strings(self):
         for tree in read_trees():
             for node in ast.walk(tree):

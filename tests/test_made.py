@@ -68,6 +68,14 @@ class MadeTest(CallCase):
         self.assertEqual(least_size(book, ("and", "y", "z")), 1111)
         self.assertEqual(size(book.signs, least(book, ("and", "y", "z"))), 1111)
 
+    def test_several_small_brothers_instead_of_few_great_ones(self):
+        # One y of five places and a tree of seven that is y and z would do; two y and one z are less.
+        book = Book(list("abcd"), [
+            ("z", "a", ()), ("y", "b", (("z", 4, 4, 1, 0),)), ("y", "c", (("z", 5, None, 3, 0),)),
+            ("z", "c", (("z", 5, None, 3, 0),)), ("w", "d", (("y", 2, 2, 1, 0), ("z", 1, 1, 1, 0)))])
+        self.check(book, ("and", "y", "z"), 7)
+        self.check(book, "w", 12)
+
     def test_ties(self):
         book = Book(["a", "b"], [("x", "a", ((None, 1, 1, 1, 0),)), ("x", "b", ((None, 1, 1, 1, 0),))])
         self.check(book, "x", 2)
