@@ -101,21 +101,31 @@ def lot_made(machine, sign, rules):
     return tuple([kind for kind, makers in machine.made[sign] if rules & makers])
 
 
+def brood_counted(machine, rows):
+    """Return the brood of brothers that are told as pairs of a lot and how many of them have it."""
+    numbers = [0] * len(machine.fitted)
+    for lot, times in rows:
+        numbers[-1] += times
+        for kind in lot:
+            numbers[kind] += times
+    return tuple([state_of(machine, number) for number in numbers])
+
+
+def lot_above(machine, sign, rows):
+    """Return the lot of a tree with a sign and brothers that are told so."""
+    return lot_made(machine, sign, rules_held(machine, brood_counted(machine, rows)))
+
+
 def lot_in(machine, tree, hole):
     """Return the lot of a tree, or of a frame that is filled with a tree of the lot hole."""
     if tree is None:
         return hole
-    return lot_made(machine, tree[0], rules_held(machine, brood_beneath(machine, tree, hole)))
+    return lot_above(machine, tree[0], [(lot_in(machine, brother, hole), 1) for brother in tree[1:]])
 
 
 def brood_beneath(machine, tree, hole):
     """Return the brood of the lots of a tree's brothers, or a frame's, filled likewise."""
-    numbers = [0] * len(machine.fitted)
-    numbers[-1] = len(tree) - 1
-    for brother in tree[1:]:
-        for kind in lot_in(machine, brother, hole):
-            numbers[kind] += 1
-    return tuple([state_of(machine, number) for number in numbers])
+    return brood_counted(machine, [(lot_in(machine, brother, hole), 1) for brother in tree[1:]])
 
 
 def full_loops(machine):
@@ -128,8 +138,19 @@ def short_loops(machine):
     return [_short_loop(fitted, machine.cap) for fitted in machine.fitted]
 
 
+def ask_loops(machine, asks):
+    """Return such pairs for as few states as tell which of these asks, and not only which rules, are fitted."""
+    return [_short_loop(_fits_of(asks, kind, machine.states), machine.cap) for kind in machine.names + [None]]
+
+
+def _fits_of(asks, kind, states):
+    """Return for each state whether it fits each of the asks of a kind."""
+    asked = [ask for ask in asks if ask[0] == kind]
+    return [[fits(ask, state) for ask in asked] for state in range(states)]
+
+
 def _short_loop(fitted, cap):
-    """Return the pair for the fewest states that tell which of these rules hold."""
+    """Return the pair for the fewest states that tell which of these rules (or asks) hold."""
     loop = fitted[cap:]
     step = min([size for size in range(1, len(loop) + 1) if loop == loop[size:] + loop[:size]])
     back = cap
@@ -223,3 +244,41 @@ def closed(machine, loops):
                 grown[at].append(more)
     moves = [[indexes[after] for after in grown[number]] for number in range(len(broods))]
     return Closure(machine, lots, broods, moves, answers)
+
+
+def brood_index(closure, tree):
+    """Return the index of the brood of a tree's brothers."""
+    brood = 0
+    for brother in tree[1:]:
+        brood = closure.moves[brood][lot_index(closure, brother)]
+    return brood
+
+
+def lot_index(closure, tree):
+    """Return the index of the lot of a tree."""
+    return closure.answers[brood_index(closure, tree)][closure.heads.index(tree[0])]
+
+
+def prospects_of(closure):
+    """Return for each brood the list that has for each sign the lots, a bit for each, that trees may come to have.
+
+    These are the lots of the sign above the brood and any brothers more.
+    """
+    many = len(closure.members)
+    masks = [sum([1 << (at * many + lot) for at, lot in enumerate(row)]) for row in closure.answers]
+    spread = _spread_once(closure, masks)
+    while spread != masks:
+        masks = spread
+        spread = _spread_once(closure, masks)
+    lots = (1 << many) - 1
+    return [[mask >> (at * many) & lots for at in range(len(closure.heads))] for mask in masks]
+
+
+def _spread_once(closure, masks):
+    """Return for each brood its mask together with those of the broods to which it moves."""
+    spread = list(masks)
+    # Most moves lead to later broods, so that these come first.
+    for brood in reversed(range(len(spread))):
+        for after in closure.moves[brood]:
+            spread[brood] = spread[brood] | spread[after]
+    return spread

@@ -1,6 +1,6 @@
 """Asks, rules, and the books that hold rules."""
 
-from broodcounts.basics import Machine, closed, fits, full_loops, is_name, is_number, short_loops
+from broodcounts.basics import Machine, closed, fits, full_loops, is_name, is_number, prospects_of, short_loops
 from broodcounts.errors import InvalidAsk, InvalidMatch, InvalidNumber, InvalidRules
 from broodcounts.trees import check_signs
 
@@ -70,6 +70,7 @@ class Book:
         self._machine = None
         self._closure = None
         self._full_closure = None
+        self._prospects = None
 
     @property
     def signs(self):
@@ -106,6 +107,13 @@ class Book:
         if self._full_closure is None:
             self._full_closure = closed(self.machine, full_loops(self.machine))
         return self._full_closure
+
+    @property
+    def prospects(self):
+        """Return which lots trees above each brood of the closure may come to have; worked out once, only read."""
+        if self._prospects is None:
+            self._prospects = prospects_of(self.closure)
+        return self._prospects
 
     def __len__(self):
         return len(self._rules)

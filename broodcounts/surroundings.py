@@ -131,12 +131,12 @@ def kin_classes(book, wish):
     """Return the ascending list of ascending lists of lots such that trees of lots of the same list are kin."""
     check_asked(book, wish)
     closure = book.closure
-    numbers = _kin_numbers(closure, wished_lots(closure, wish))
+    numbers = kin_numbers(closure, wished_lots(closure, wish))
     rows = [[lot for lot, number in zip(closure.members, numbers) if number == each] for each in sorted(set(numbers))]
     return sorted([sorted(row) for row in rows])
 
 
-def _kin_numbers(closure, wished):
+def kin_numbers(closure, wished):
     """Return a number for each lot: the same one just if no surrounding parts trees of them."""
     ways = list(changes(closure))
     numbers = [1 if each else 0 for each in wished]

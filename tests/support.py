@@ -5,6 +5,7 @@ import unittest
 
 from broodcounts.books import Book
 from broodcounts.errors import BroodError, ParseError
+from broodcounts.reader import Reader
 
 SIGNS = ["a", "b", "f"]
 A = ("a",)
@@ -68,7 +69,7 @@ def odd_objects():
         nested(60, lambda thing: {"a": thing}), nested(59, lambda thing: ("a", thing)),
         [None] * 5000, (None,) * 5000, ["a"] * 5000, "a" * 5000,
         Book(["a"], []), Book(SIGNS, RULES), [Book(["a"], [])], ("a", Book(["a"], [])),
-        (Book(["a"], []),), BroodError("wrong"), ParseError(3),
+        (Book(["a"], []),), BroodError("wrong"), ParseError(3), Reader(BOOK), ("f", Reader(BOOK)),
     ]
 
 

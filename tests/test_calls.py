@@ -1,22 +1,25 @@
-"""Promise 2 for all calls from stage 3 on: errors and their order, arguments by name, nothing changed, all new."""
+"""Promise 2 for all functions: errors and their order, arguments by name, nothing changed, all new."""
 
 import itertools
 import time
 import unittest
 
 from broodcounts.beside import are_alike, holds, parting
-from broodcounts.books import Book
+from broodcounts.books import Book, is_ask, is_fit, is_rule
 from broodcounts.broods import brood_of, cap_and_step, grown, step
 from broodcounts.counting import count, listed, place_of, tree_at
 from broodcounts.endless import all_trees, growth, is_finite, is_growth
 from broodcounts.errors import (
-    InvalidBook, InvalidBrood, InvalidFrame, InvalidLot, InvalidLots, InvalidNumber, InvalidSigns, InvalidTree,
-    InvalidWish, TooMany, UnknownSign,
+    InvalidAsk, InvalidBook, InvalidBrood, InvalidFrame, InvalidKind, InvalidLot, InvalidLots, InvalidNumber,
+    InvalidRules, InvalidSigns, InvalidTree, InvalidWish, TooMany, UnknownSign,
 )
 from broodcounts.made import is_made, least, least_size
+from broodcounts.mending import least_added, least_taken
+from broodcounts.met import never_met, numbers_met
+from broodcounts.needless import needless_asks, needless_rules, without_ask, without_rule
 from broodcounts.surroundings import are_kin, filled, is_frame, is_parter, kin_classes, parter
 from broodcounts.tables import is_table, lots, table
-from broodcounts.trees import is_signs, is_tree
+from broodcounts.trees import alike, depth, is_signs, is_tree, parts, plain, size, trees_of_size
 from broodcounts.wishes import is_of, is_wish, is_wished, lot_of
 from tests.support import (
     A, BOOK, MANY_SIGNS, NO_WISHES, RULES, SIGNS, TWO_SIGNS, CallCase, nested, odd_objects, snapshot,
@@ -35,7 +38,21 @@ DEEP = ("b", *[nested(39, lambda part: ("b", part) if part else A)] * 128)
 ASKED = {"book": InvalidBook, "wish": InvalidWish}
 PAIR = {**ASKED, "one": InvalidTree, "other": InvalidTree}
 BOTH = {"one": InvalidBook, "wish": InvalidWish, "other": InvalidBook, "other_wish": InvalidWish}
+ON_TREE = {"signs": InvalidSigns, "tree": InvalidTree}
 CALLS = [
+    (is_signs, {"thing": SIGNS}, {}),
+    (is_tree, {"signs": SIGNS, "thing": TREE}, {"signs": InvalidSigns}),
+    (plain, {"signs": SIGNS, "tree": TREE}, ON_TREE),
+    (size, {"signs": SIGNS, "tree": TREE}, ON_TREE),
+    (depth, {"signs": SIGNS, "tree": TREE}, ON_TREE),
+    (parts, {"signs": SIGNS, "tree": TREE}, ON_TREE),
+    (alike, {"signs": SIGNS, "one": TREE, "other": ("f", A, ("b",), ("f", A, A))},
+     {"signs": InvalidSigns, "one": InvalidTree, "other": InvalidTree}),
+    (trees_of_size, {"signs": SIGNS, "size": 3}, {"signs": InvalidSigns, "size": InvalidNumber}),
+    (is_ask, {"thing": ("k", 0, 4, 2, 1)}, {}),
+    (is_fit, {"ask": ("k", 0, 4, 2, 1), "number": 3}, {"ask": InvalidAsk, "number": InvalidNumber}),
+    (is_rule, {"signs": SIGNS, "thing": RULES[2]}, {"signs": InvalidSigns}),
+    (Book, {"signs": SIGNS, "rules": RULES}, {"signs": InvalidSigns, "rules": InvalidRules}),
     (is_wish, {"thing": WISH}, {}),
     (is_wished, {"wish": WISH, "lot": ("even",)}, {"wish": InvalidWish, "lot": InvalidLot}),
     (lot_of, {"book": BOOK, "tree": TREE}, {"book": InvalidBook, "tree": InvalidTree}),
@@ -72,6 +89,16 @@ CALLS = [
     (is_parter, {"book": BOOK, "wish": "wide", "one": A, "other": TREE, "thing": ("f", A, None, A)}, PAIR),
     (are_kin, {"book": BOOK, "wish": "wide", "one": A, "other": TREE}, PAIR),
     (kin_classes, {"book": BOOK, "wish": "wide"}, ASKED),
+    (without_rule, {"book": BOOK, "index": 1}, {"book": InvalidBook, "index": InvalidNumber}),
+    (without_ask, {"book": BOOK, "index": 2, "ask": 1},
+     {"book": InvalidBook, "index": InvalidNumber, "ask": InvalidNumber}),
+    (needless_rules, {"book": BOOK, "wish": "leaf"}, ASKED),
+    (needless_asks, {"book": BOOK, "wish": "leaf"}, ASKED),
+    (least_added, {"book": BOOK, "wish": "wide", "tree": ("f", ("f", A), A)}, {**ASKED, "tree": InvalidTree}),
+    (least_taken, {"book": BOOK, "wish": "even", "tree": ("f", ("f",), A, ("f",))}, {**ASKED, "tree": InvalidTree}),
+    (numbers_met, {"book": BOOK, "wish": "even", "sign": "f", "kind": "leaf"},
+     {**ASKED, "sign": UnknownSign, "kind": InvalidKind}),
+    (never_met, {"book": BOOK, "wish": "leaf"}, ASKED),
 ]
 # Odd objects that are right for an argument after all.
 RIGHT = {
@@ -85,6 +112,9 @@ RIGHT = {
     InvalidNumber: lambda thing: isinstance(thing, int) and not isinstance(thing, bool),
     UnknownSign: lambda thing: thing == "a",
     InvalidBrood: lambda thing: False,
+    InvalidAsk: lambda thing: False,
+    InvalidRules: lambda thing: thing == [],
+    InvalidKind: lambda thing: thing in (None, "a", "abcdefgh"),
 }
 MORE = {
     InvalidSigns: NO_SIGNS,
@@ -97,9 +127,19 @@ MORE = {
                  {"leaf": True}, (BOOK,), ("even", True), (["even"],)],
     InvalidLots: [("leaf",), [["leaf"]], [("leaf", "even")], [("leaf", "leaf")], [("leaf",), None], [("leaf",), "leaf"],
                   ["leaf"], (("leaf",),), [("nokind",)], [("leaf",), ("even", "nokind")], {"leaf": ()}, [(BOOK,)]],
-    InvalidNumber: [-1, 21, 10 ** 39, -(10 ** 39), "1", [1], (1,)],
+    InvalidNumber: [-1, -(10 ** 39), True, False, None, "1", [1], (1,)],
+    InvalidAsk: [("k", 3, 2, 1, 0), ["k", 0, 4, 2, 1], ("k", 0, 4, 2), ("k", 0, 4, 2, 1, 0), ("K", 0, 4, 2, 1),
+                 ("k", True, 4, 2, 1), ("k", 0, 6, 2, 1), ("k", 0, 4, 4, 1), ("k", 0, 4, 0, 0), ("k", 0, 4, 2, 2)],
+    InvalidRules: [tuple(RULES), [RULES], [list(RULES[0])], RULES + [None], RULES + [("k", "z", ())], [("k", "a")],
+                   [("k", "a", [])], [("k", "a", (("k", 0, 4, 2),))], RULES * 51, {"a": RULES}, Book(SIGNS, RULES)],
+    InvalidKind: ["", "abcdefghi", "Leaf", "a b", True, 3, ("leaf",), ["leaf"], {"leaf": None}, BOOK],
     UnknownSign: ["z", "F", "", ("f",), ["f"], None, 0, SIGNS],
     InvalidBrood: [(), BROOD[:3], (*BROOD, (0, 0)), list(BROOD), ((0, 0), (2, 0), (1, 1), [3, 1]), (BROOD,)],
+}
+# Odd objects that a call which judges objects accepts.
+ACCEPTED = {
+    is_signs: lambda thing: thing in (["a"], ["ab"]), is_frame: RIGHT[InvalidFrame], is_tree: RIGHT[InvalidTree],
+    is_wish: RIGHT[InvalidWish],
 }
 
 
@@ -122,10 +162,16 @@ class ErrorsTest(CallCase):
                         with self.subTest(call=call.__name__, names=names, thing=repr(thing)[:40]):
                             self.assert_raises_exactly(errors[names[0]], call, *wrong.values())
 
+    def test_numbers_that_are_too_great(self):
+        for call, passed, errors in CALLS:
+            for name in [name for name, error in errors.items() if error is InvalidNumber and call is not is_fit]:
+                self.assert_each_raises(InvalidNumber, lambda thing: call(**{**passed, name: thing}), [21, 10 ** 39])
+
     def test_any_object_where_any_object_is_accepted(self):
         for call, passed, _ in CALLS:
-            if "thing" in passed and call is not is_wish:
-                things = [thing for thing in odd_objects() if call is not is_frame or not RIGHT[InvalidFrame](thing)]
+            if "thing" in passed:
+                right = ACCEPTED.get(call, lambda thing: False)
+                things = [thing for thing in odd_objects() if not right(thing)]
                 self.assert_each_false(lambda thing: call(**{**passed, "thing": thing}), things)
 
 
