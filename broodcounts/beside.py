@@ -15,16 +15,27 @@ def holds(one, wish, other, other_wish):
 
 def parting(one, wish, other, other_wish):
     """Return a plain tree of least size that is of just one of both wishes, or None."""
-    _check_both(one, wish, other, other_wish)
-    closure = _joined(one, other)
-    lot = first_lot(_parted(closure, wish, other_wish))
+    closure, lot = _first_parted(one, wish, other, other_wish)
     return None if lot is None else least_tree(closure, lot)
+
+
+def parting_size(one, wish, other, other_wish):
+    """Return the least size of a tree that is of just one of both wishes, or None; no tree is made."""
+    closure, lot = _first_parted(one, wish, other, other_wish)
+    return None if lot is None else closure.sizes[lot]
 
 
 def are_alike(one, wish, other, other_wish):
     """Return whether no tree is of just one of both wishes."""
+    _, lot = _first_parted(one, wish, other, other_wish)
+    return lot is None
+
+
+def _first_parted(one, wish, other, other_wish):
+    """Return the closure of both books and in it the first lot that is of just one of both wishes, or None."""
     _check_both(one, wish, other, other_wish)
-    return not any(_parted(_joined(one, other), wish, other_wish))
+    closure = _joined(one, other)
+    return (closure, first_lot(_parted(closure, wish, other_wish)))
 
 
 def _check_both(one, wish, other, other_wish):

@@ -17,6 +17,7 @@ class Reader:
     def __init__(self, book):
         check_book(book)
         self._book = book
+        self._heads = book.signs
         self._standing = []
         self._ended = []
         self._steps = []
@@ -29,18 +30,16 @@ class Reader:
     @property
     def signs(self):
         """Return the list of the signs of the open trees, outermost first."""
-        heads = self._book.signs
-        return [heads[place] for place, _ in self._standing]
+        return [self._heads[place] for place, _ in self._standing]
 
     def __len__(self):
         return len(self._standing)
 
     def begin(self, sign):
         """Open a tree with a sign beneath the one opened last, or a new outermost one."""
-        heads = self._book.signs
-        if sign not in heads:
+        if sign not in self._heads:
             raise UnknownSign("the sign is none of the book's signs")
-        self._standing.append((heads.index(sign), 0))
+        self._standing.append((self._heads.index(sign), 0))
         self._steps.append(None)
 
     def close(self):

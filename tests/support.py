@@ -4,8 +4,10 @@ import itertools
 import unittest
 
 from broodcounts.books import Book
+from broodcounts.document import Document
 from broodcounts.errors import BroodError, ParseError
 from broodcounts.reader import Reader
+from broodcounts.shell import Shell
 
 SIGNS = ["a", "b", "f"]
 A = ("a",)
@@ -57,6 +59,14 @@ def chain(levels, leaf="a"):
     return tree
 
 
+def read(reader, tree):
+    """Begin and close all of a tree; return what the last close tells."""
+    reader.begin(tree[0])
+    for brother in tree[1:]:
+        read(reader, brother)
+    return reader.close()
+
+
 def odd_objects():
     """Objects of every kind that are no signs, trees, asks, rules or lists of rules."""
     return [
@@ -70,6 +80,7 @@ def odd_objects():
         [None] * 5000, (None,) * 5000, ["a"] * 5000, "a" * 5000,
         Book(["a"], []), Book(SIGNS, RULES), [Book(["a"], [])], ("a", Book(["a"], [])),
         (Book(["a"], []),), BroodError("wrong"), ParseError(3), Reader(BOOK), ("f", Reader(BOOK)),
+        Document(BOOK, "a"), [Document(BOOK, "a")], Shell(), ("a", Shell()),
     ]
 
 
@@ -103,6 +114,10 @@ def snapshot(thing):
     """What an object looks like now, books within it, too; True is told from 1 here, which == does not."""
     if isinstance(thing, Book):
         return f"Book({thing.signs!r}, {thing.rules!r}, {thing.kinds!r})"
+    if isinstance(thing, Reader):
+        return f"Reader({thing.lots!r}, {thing.signs!r})"
+    if isinstance(thing, Document):
+        return f"Document({thing.tree!r}, {len(thing)!r})"
     if isinstance(thing, (list, tuple)):
         return type(thing).__name__ + "(" + ", ".join(map(snapshot, thing)) + ")"
     return repr(thing)

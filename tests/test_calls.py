@@ -1,6 +1,7 @@
 """Promise 2 for all functions: errors and their order, arguments by name, nothing changed, all new."""
 
 import itertools
+import random
 import time
 import unittest
 
@@ -8,17 +9,24 @@ from broodcounts.beside import are_alike, holds, parting
 from broodcounts.books import Book, is_ask, is_fit, is_rule
 from broodcounts.broods import brood_of, cap_and_step, grown, step
 from broodcounts.counting import count, listed, place_of, tree_at
+from broodcounts.document import Document
 from broodcounts.endless import all_trees, growth, is_finite, is_growth
 from broodcounts.errors import (
-    InvalidAsk, InvalidBook, InvalidBrood, InvalidFrame, InvalidKind, InvalidLot, InvalidLots, InvalidNumber,
-    InvalidRules, InvalidSigns, InvalidTree, InvalidWish, TooMany, UnknownSign,
+    BroodError, InvalidAsk, InvalidBook, InvalidBrood, InvalidFrame, InvalidKind, InvalidLot, InvalidLots, InvalidMatch,
+    InvalidNet, InvalidNumber, InvalidRule, InvalidRules, InvalidSigns, InvalidTree, InvalidWish, ParseError, TooMany,
+    UnknownSign,
 )
 from broodcounts.made import is_made, least, least_size
 from broodcounts.mending import least_added, least_taken
 from broodcounts.met import never_met, numbers_met
 from broodcounts.needless import needless_asks, needless_rules, without_ask, without_rule
+from broodcounts.nets import is_net, net_lots, net_of, net_sizes, same_nodes, tree_of
+from broodcounts.reader import Reader
 from broodcounts.surroundings import are_kin, filled, is_frame, is_parter, kin_classes, parter
 from broodcounts.tables import is_table, lots, table
+from broodcounts.texts import (
+    format_book, format_rule, format_tree, format_wish, parse_book, parse_rule, parse_tree, parse_wish,
+)
 from broodcounts.trees import alike, depth, is_signs, is_tree, parts, plain, size, trees_of_size
 from broodcounts.wishes import is_of, is_wish, is_wished, lot_of
 from tests.support import (
@@ -39,6 +47,8 @@ ASKED = {"book": InvalidBook, "wish": InvalidWish}
 PAIR = {**ASKED, "one": InvalidTree, "other": InvalidTree}
 BOTH = {"one": InvalidBook, "wish": InvalidWish, "other": InvalidBook, "other_wish": InvalidWish}
 ON_TREE = {"signs": InvalidSigns, "tree": InvalidTree}
+ON_NET = {"signs": InvalidSigns, "net": InvalidNet}
+NET = [("a", ()), ("b", ()), ("f", ((0, 3), (1, 2))), ("a", ((0, 1), (1, 1), (2, 2)))]
 CALLS = [
     (is_signs, {"thing": SIGNS}, {}),
     (is_tree, {"signs": SIGNS, "thing": TREE}, {"signs": InvalidSigns}),
@@ -99,6 +109,22 @@ CALLS = [
     (numbers_met, {"book": BOOK, "wish": "even", "sign": "f", "kind": "leaf"},
      {**ASKED, "sign": UnknownSign, "kind": InvalidKind}),
     (never_met, {"book": BOOK, "wish": "leaf"}, ASKED),
+    (Reader, {"book": BOOK}, {"book": InvalidBook}),
+    (is_net, {"signs": SIGNS, "thing": NET}, {"signs": InvalidSigns}),
+    (net_sizes, {"signs": SIGNS, "net": NET}, ON_NET),
+    (same_nodes, {"signs": SIGNS, "net": NET}, ON_NET),
+    (net_lots, {"book": BOOK, "net": NET}, {"book": InvalidBook, "net": InvalidNet}),
+    (net_of, {"signs": SIGNS, "tree": TREE}, ON_TREE),
+    (tree_of, {"signs": SIGNS, "net": NET}, ON_NET),
+    (Document, {"book": BOOK, "sign": "f"}, {"book": InvalidBook, "sign": UnknownSign}),
+    (format_tree, {"signs": SIGNS, "tree": TREE}, ON_TREE),
+    (format_rule, {"signs": SIGNS, "rule": RULES[2]}, {"signs": InvalidSigns, "rule": InvalidRule}),
+    (format_wish, {"wish": WISH}, {"wish": InvalidWish}),
+    (format_book, {"book": BOOK}, {"book": InvalidBook}),
+    (parse_tree, {"signs": SIGNS, "text": "f(f(a,b),a)"}, {"signs": InvalidSigns, "text": ParseError}),
+    (parse_rule, {"signs": SIGNS, "text": "k = a *:0-1@2+1"}, {"signs": InvalidSigns, "text": ParseError}),
+    (parse_wish, {"text": "and x not 'or"}, {"text": ParseError}),
+    (parse_book, {"text": "signs a\nk = a *:0-0"}, {"text": ParseError}),
 ]
 # Odd objects that are right for an argument after all.
 RIGHT = {
@@ -115,6 +141,9 @@ RIGHT = {
     InvalidAsk: lambda thing: False,
     InvalidRules: lambda thing: thing == [],
     InvalidKind: lambda thing: thing in (None, "a", "abcdefgh"),
+    InvalidNet: lambda thing: False,
+    InvalidRule: lambda thing: False,
+    ParseError: lambda thing: thing in ("a", "abcdefgh"),
 }
 MORE = {
     InvalidSigns: NO_SIGNS,
@@ -132,6 +161,13 @@ MORE = {
                  ("k", True, 4, 2, 1), ("k", 0, 6, 2, 1), ("k", 0, 4, 4, 1), ("k", 0, 4, 0, 0), ("k", 0, 4, 2, 2)],
     InvalidRules: [tuple(RULES), [RULES], [list(RULES[0])], RULES + [None], RULES + [("k", "z", ())], [("k", "a")],
                    [("k", "a", [])], [("k", "a", (("k", 0, 4, 2),))], RULES * 51, {"a": RULES}, Book(SIGNS, RULES)],
+    InvalidNet: [[], tuple(NET), NET[::-1], NET[2:], [*NET, None], [None, *NET], [list(NET[0])], [("z", ())], [("a", [])],
+                 NET + [("f", ((0, 0),))], NET + [("f", ((0, True),))], NET + [("f", ((1, 1), (0, 1)))],
+                 NET + [("f", ((4, 1),))], NET + [("f", ((-1, 1),))], NET + [("f", ((True, 1),))], NET * 51],
+    InvalidRule: ["k = a", (), RULES[2][:2], list(RULES[2]), (*RULES[2], ()), ("k", "z", ()), ("K", "a", ()), RULES,
+                  ("k", "a", [])],
+    ParseError: ["", " ", "f(", "f()", "f(a,b", "a b", "and", "not", "k =", "signs ", "signs A", "\n", "f(f(a,b),a) ",
+                 ["a"], ("a",), b"a"],
     InvalidKind: ["", "abcdefghi", "Leaf", "a b", True, 3, ("leaf",), ["leaf"], {"leaf": None}, BOOK],
     UnknownSign: ["z", "F", "", ("f",), ["f"], None, 0, SIGNS],
     InvalidBrood: [(), BROOD[:3], (*BROOD, (0, 0)), list(BROOD), ((0, 0), (2, 0), (1, 1), [3, 1]), (BROOD,)],
@@ -173,6 +209,85 @@ class ErrorsTest(CallCase):
                 right = ACCEPTED.get(call, lambda thing: False)
                 things = [thing for thing in odd_objects() if not right(thing)]
                 self.assert_each_false(lambda thing: call(**{**passed, "thing": thing}), things)
+
+
+def near(source, thing):
+    """An object like another one: a part of it left out, put in, doubled, exchanged, or of another kind."""
+    if isinstance(thing, (list, tuple)) and thing and source.random() < 0.85:
+        at = source.randrange(len(thing))
+        parts = list(thing)
+        change = source.choice(["within", "within", "within", "out", "in", "double", "turn"])
+        if change == "within":
+            parts[at] = near(source, thing[at])
+        elif change == "turn":
+            parts.reverse()
+        else:
+            parts[at:at + 1] = {"out": [], "in": [odd(source), thing[at]], "double": [thing[at]] * 2}[change]
+        return type(thing)(parts)
+    if isinstance(thing, str) and thing and source.random() < 0.7:
+        at = source.randrange(len(thing))
+        return thing[:at] + source.choice(["", "A", "a", " ", thing[at] * 2, "\n", "(", "9"]) + thing[at + 1:]
+    if isinstance(thing, int) and not isinstance(thing, bool) and source.random() < 0.7:
+        return source.choice([thing - 1, thing + 1, -thing, bool(thing), str(thing), 10 ** 39])
+    if isinstance(thing, (list, tuple)) and source.random() < 0.7:
+        return source.choice([list, tuple, str])(thing)
+    return odd(source)
+
+
+def odd(source):
+    return source.choice([None, True, False, 0, -1, 10 ** 39, "", "a", "A", (), [], {}, ("a",), ["a"], BOOK, Reader(BOOK)])
+
+
+# Whether an object is right for an argument, if the arguments before it are right.
+JUDGES = {
+    InvalidSigns: lambda passed, thing: is_signs(thing), InvalidBook: lambda passed, thing: isinstance(thing, Book),
+    InvalidWish: lambda passed, thing: is_wish(thing), InvalidAsk: lambda passed, thing: is_ask(thing),
+    InvalidTree: lambda passed, thing: is_tree(signs_in(passed), thing),
+    InvalidFrame: lambda passed, thing: is_frame(signs_in(passed), thing),
+    InvalidNet: lambda passed, thing: is_net(signs_in(passed), thing),
+    InvalidRule: lambda passed, thing: is_rule(signs_in(passed), thing),
+    InvalidRules: lambda passed, thing: isinstance(thing, list) and len(thing) <= 200 and all(
+        is_rule(signs_in(passed), rule) for rule in thing),
+    UnknownSign: lambda passed, thing: any(sign == thing for sign in signs_in(passed)),
+    InvalidKind: lambda passed, thing: thing is None or isinstance(thing, str) and is_wish(thing),
+}
+
+
+def signs_in(passed):
+    return passed["signs"] if "signs" in passed else passed["book"].signs
+
+
+def errors_of(call, passed, errors):
+    """The errors that a call may raise, and whether it must raise one of them."""
+    found = []
+    for name, error in errors.items():
+        if error not in JUDGES or (call, error) == (place_of, InvalidTree):
+            found.append(error)
+        elif not JUDGES[error](passed, passed[name]):
+            return (*found, error), True
+    return (*found, TooMany, InvalidMatch), False
+
+
+class NearTest(CallCase):
+    """Things that are nearly right are refused by the first error listed for them, or right after all."""
+
+    def test_arguments_that_are_nearly_right(self):
+        source = random.Random(21)
+        for call, passed, errors in CALLS:
+            for _ in range(150):
+                names = source.sample(list(passed), min(source.choice([1, 1, 2, 3]), len(passed)))
+                wrong = {**passed, **{name: near(source, passed[name]) for name in names}}
+                before = snapshot(list(wrong.values()))
+                expected, must = errors_of(call, wrong, errors)
+                with self.subTest(call=call.__name__, wrong=repr(wrong)[:200]):
+                    try:
+                        told = call(**wrong)
+                    except BroodError as error:
+                        self.assertIn(type(error), expected)
+                    else:
+                        self.assertFalse(must)
+                        self.assertTrue("thing" not in passed or type(told) is bool)
+                    self.assertEqual(snapshot(list(wrong.values())), before)
 
 
 class ArgumentsTest(CallCase):

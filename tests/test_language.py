@@ -144,6 +144,26 @@ class LanguageTest(unittest.TestCase):
             imported = {name.name for node in tree.body if isinstance(node, ast.ImportFrom) for name in node.names}
             self.assertFalse(imported & set(given_names(tree)))
 
+    def test_no_method_of_a_set_has_the_name_of_a_method_of_the_package(self):
+        # A document has a method called add, so that no set is stored and added to.
+        for tree in read_trees():
+            for node in ast.walk(tree):
+                if isinstance(node, ast.Call) and isinstance(node.func, ast.Attribute):
+                    self.assertNotIn(node.func.attr, ("add", "discard"))
+
+    def test_kept_answers_stand_in_their_own_class_only(self):
+        kept = ("_machine", "_closure", "_full_closure", "_prospects")
+        for path in files():
+            nodes = list(ast.walk(ast.parse(path.read_text())))
+            found = [node.attr for node in nodes if isinstance(node, ast.Attribute) and node.attr in kept]
+            # Each is set by __init__, and tested, set and returned by its property.
+            self.assertEqual({name: found.count(name) for name in kept}, dict.fromkeys(kept, 4 if path.stem == "books" else 0))
+
+    def test_neither_errors_caught_nor_generators_nor_annotations(self):
+        for tree in read_trees():
+            for node in ast.walk(tree):
+                self.assertNotIsInstance(node, (ast.Try, ast.GeneratorExp, ast.Yield, ast.YieldFrom, ast.AnnAssign))
+
     def test_no_sort_in_place_and_no_remainder_sign_in_strings(self):
         for tree in read_trees():
             for node in ast.walk(tree):

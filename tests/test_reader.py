@@ -10,17 +10,9 @@ from broodcounts.reader import Reader
 from broodcounts.trees import trees_of_size
 from broodcounts.wishes import is_of, lot_of
 from tests import naive
-from tests.support import A, B, BOOK, MANY_SIGNS, NO_WISHES, RULES, SIGNS, TWO_SIGNS, CallCase, odd_objects, snapshot
+from tests.support import A, B, BOOK, MANY_SIGNS, NO_WISHES, RULES, SIGNS, TWO_SIGNS, CallCase, odd_objects, read, snapshot
 
 F = ("f",)
-
-
-def read(reader, tree):
-    """Begin and close all of a tree; return what the last close tells."""
-    reader.begin(tree[0])
-    for brother in tree[1:]:
-        read(reader, brother)
-    return reader.close()
 
 
 def state(reader):

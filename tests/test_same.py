@@ -18,7 +18,7 @@ from broodcounts.tables import lots
 from broodcounts.trees import size, trees_of_size
 from broodcounts.wishes import is_of, lot_of
 from tests import naive
-from tests.support import BOOK, CallCase
+from tests.support import BOOK, CallCase, read
 
 
 def renamed_wish(wish, names):
@@ -241,16 +241,10 @@ class TogetherTest(CallCase):
             reader = Reader(book)
             reader.begin(tree[0])
             for brother in tree[1:]:
-                self.read(reader, brother)
+                read(reader, brother)
             self.assertIs(reader.can_become(wish), least_added(book, wish, tree) is not None)
             self.assertIs(reader.must_become(wish), least_added(book, ("not", wish), tree) is None)
             self.assertEqual(reader.close(), lot_of(book, tree))
-
-    def read(self, reader, tree):
-        reader.begin(tree[0])
-        for brother in tree[1:]:
-            self.read(reader, brother)
-        reader.close()
 
 
 class AllTreesTest(CallCase):
