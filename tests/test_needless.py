@@ -186,6 +186,25 @@ class NeedlessTest(CallCase):
         free = Book(["a"], asks + [("z", "a", (("y", 1, None, 1, 0),)), ("z", "a", (("y", 0, 0, 1, 0),))])
         self.check(free, "z", [0, 1, 2, 3], [(0, 0), (1, 0), (2, 0), (3, 0), (4, 0), (5, 0)])
 
+    def test_lots_and_broods_that_only_the_changed_book_has(self):
+        for signs, rules, wish, told in [
+            ("a", [("y", "a", ()), ("x", "a", (("x", 1, 1, 1, 0),))], ("or", "y", "x"), ([1], [(1, 0)])),
+            ("a", [("x", "a", (("x", 0, 0, 3, 1),)), ("y", "a", (("x", 0, 0, 1, 0),))], "y", ([0], [(1, 0)])),
+            ("a", [("x", "a", ()), ("y", "a", (("x", 1, 1, 2, 1), (None, 1, None, 3, 2)))], "y", ([0, 1], [])),
+            ("ab", [("x", "b", (SOME,)), ("y", "b", (("y", 0, 0, 1, 0),))], ("or", "y", "x"), ([], [(0, 0), (1, 0)])),
+            ("ab", [("y", "b", (("x", 0, None, 3, 0),)), ("x", "b", (("x", 0, None, 3, 1),))], ("or", "x", "y"),
+             ([1], [(0, 0), (1, 0)])),
+            ("a", [("y", "a", (("x", 0, 1, 3, 0),)), ("x", "a", (("x", 1, None, 1, 0), ("y", 0, None, 3, 1)))],
+             ("or", "x", "y"), ([1], [(0, 0), (1, 1)])),
+            ("ab", [("x", "a", ((None, 1, 1, 1, 0),)), ("y", "b", (SOME,)), ("y", "a", (("x", 1, 1, 1, 0),))],
+             ("and", "y", "x"), ([1], [(1, 0)])),
+            ("ab", [("x", "a", (("y", 1, None, 1, 0),)), ("y", "a", (ALWAYS, SOME)), ("x", "b", ())],
+             ("or", ("not", "x"), "y"), ([0, 1], [(1, 0), (1, 1)])),
+        ]:
+            book = Book(list(signs), rules)
+            self.check(book, wish, *told)
+            self.check_by_alike(book, wish)
+
     def test_as_told_by_alike_books(self):
         source = random.Random(111)
         told = set()

@@ -159,6 +159,20 @@ class UndoTest(CallCase):
         read(reader, B)
         self.assertEqual(reader.close(), ("even", "wide"))
 
+    def test_undo_of_a_close_with_several_open(self):
+        reader = Reader(BOOK)
+        for sign in "fffa":
+            reader.begin(sign)
+        reader.close()
+        reader.undo()
+        reader.undo()
+        read(reader, A)
+        read(reader, A)
+        reader.undo()
+        reader.undo()
+        # Only one brother is beneath the third tree, and none beneath the others.
+        self.assertEqual([reader.close() for _ in range(3)], [(), ("even",), ("even",)])
+
     def test_all_taken_back_and_done_anew(self):
         reader = Reader(BOOK)
         trees = [("f", A, ("f", B, B), A), A, ("f", ("f", A), F, B)]
@@ -280,6 +294,24 @@ class BecomeTest(CallCase):
             ([("f",), ("f",), ("f",), ("f",)], "even", True, False), ([("f",), ("f",), ("f",)], "nokind", False, False),
         ]:
             self.check(self.opened(*trees), wish, can, must)
+
+    def test_what_the_inner_trees_cannot_become(self):
+        # A tree is bad if a bad one, or an a with a brother, stands in it: what is open may have to become bad.
+        book = Book(["a", "f"], [("bad", "a", ((None, 1, None, 1, 0),)), ("bad", "f", (("bad", 1, None, 1, 0),)),
+                                 ("good", "a", ((None, 0, 0, 1, 0),)), ("good", "f", (("bad", 0, 0, 1, 0),))])
+        for opened, can, must in [
+            ("f", True, False), ("fa", True, False), ("faf", False, True), ("fff", True, False), ("fffa", True, False),
+            ("fffaf", False, True), ("fffaff", False, True), ("a", True, False), ("af", False, True),
+        ]:
+            reader = Reader(book)
+            for sign in opened:
+                reader.begin(sign)
+            self.check(reader, "good", can, False)
+            self.check(reader, "bad", True, must)
+            # A brother beneath the innermost tree matters only if its sign is a.
+            read(reader, A)
+            self.check(reader, "good", can and opened[-1] != "a", False)
+            self.check(reader, "bad", True, must or opened[-1] == "a")
 
     def test_only_a_closed_tree_has_a_lot(self):
         reader = self.opened(("f", F))
